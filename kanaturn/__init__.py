@@ -1,0 +1,1 @@
+"""A conversion under way: a reading, shown as the likeliest way of writing it."""

@@ -1,0 +1,136 @@
+"""What's settled, where one is, what's chosen: no call settles anything yet, so turns are made by hand here."""
+
+import itertools
+import unittest
+
+from kanaturn.conversion import Conversion
+from kanaturn.joins import read_joins
+from kanaturn.lexicon import read_lexicon
+from kanaturn.turn import Turn, is_chosen, shown_pieces, where_one_is
+from tests.helper import all_ways, bytes_of, joins_text, lexicon_text, numbers_of, way_rank
+
+# In the words' order, so that a word's number is its place here.
+LEXICON = [("a", "A", 1, 1, 10), ("aa", "B", 2, 2, 25), ("aa", "C", 1, 1, 25), ("aab", "E", 0, 0, 90),
+           ("b", "D", 3, 3, 5)]
+WORDS = read_lexicon(bytes_of(lexicon_text(LEXICON)))
+TABLE = {(0, 2): 3, (1, 1): 20, (2, 3): 7, (3, 3): 1, (2, 1): 4}
+JOINS = read_joins(bytes_of(joins_text(40, TABLE)))
+
+
+def keeps(way, length, cuts, choices):
+    """The document's own words of a way that keeps what's settled."""
+    places = {}
+    place = 0
+    for size, number in way:
+        places[place] = number
+        place += size
+    for cut, kind in cuts.items():
+        if cut < length and kind == (2 if cut in places else 1):
+            return False
+    return all(places.get(place) == number for place, number in choices.items())
+
+
+def shown(reading, cuts, choices, sort=0):
+    turn = Turn(tuple(numbers_of(reading)))
+    turn.cuts = dict(cuts)
+    turn.choices = dict(choices)
+    turn.sort_before = sort
+    return [(piece.size, piece.number) for piece in shown_pieces(WORDS, JOINS, turn)]
+
+
+class Settled(unittest.TestCase):
+    def check(self, reading, cuts, choices):
+        ways = [way for way in all_ways(LEXICON, reading) if keeps(way, len(reading), cuts, choices)]
+        if ways:
+            first = min(ways, key=lambda way: way_rank(LEXICON, 40, TABLE, way))
+            self.assertEqual(shown(reading, cuts, choices), first, (reading, cuts, choices))
+        return len(ways)
+
+    def test_cuts(self):
+        for reading in ("a", "aab", "aaab", "baab"):
+            for kinds in itertools.product((0, 1, 2), repeat=len(reading) - 1):
+                self.check(reading, dict(enumerate(kinds, start=1)), {})
+
+    def test_cuts_at_the_end_count_nothing(self):
+        for kind in (0, 1, 2):
+            self.assertEqual(shown("aab", {3: kind}, {}), [(2, 2), (1, 4)])
+
+    def test_choices(self):
+        kept = 0
+        for reading in ("aab", "aaab"):
+            for first, second in itertools.product(range(-2, 5), repeat=2):
+                for place in range(1, len(reading)):
+                    choices = {0: first, place: second}
+                    kept += self.check(reading, {}, {at: number for at, number in choices.items() if number > -2})
+        self.assertGreater(kept, 100)
+
+    def test_cuts_and_choices(self):
+        for kinds in itertools.product((0, 1, 2), repeat=3):
+            for place, number in itertools.product(range(4), range(-1, 5)):
+                self.check("aaab", dict(enumerate(kinds, start=1)), {place: number})
+
+    def test_the_sort_before(self):
+        self.assertEqual(shown("aab", {}, {}, 0), [(2, 2), (1, 4)])
+        # Behind sort 1 the word C costs 20 more than it does behind 0, B 3 less.
+        self.assertEqual(shown("aab", {}, {}, 1), [(2, 1), (1, 4)])
+
+
+class More(unittest.TestCase):
+    """More sounds unsettle nothing."""
+
+    def conversion(self):
+        conversion = Conversion()
+        conversion.tell_words(bytes_of("a A 0 0 9\nb D 0 0 9\nab E 0 0 1\nbb F 0 0 1\n"))
+        conversion.start(numbers_of("aab"))
+        return conversion
+
+    def test_all_else_stays(self):
+        conversion = self.conversion()
+        turn = conversion.turn
+        turn.cuts, turn.choices, turn.place, turn.sort_before = {1: 1, 2: 1, 3: 1}, {1: -1}, 2, 7
+        self.assertEqual(conversion.shown(), [3, 2, 0, 1, 0, 0, 1, 1, -1, 1, 2, 1, 2, 0])
+        self.assertEqual(conversion.more(numbers_of("b")), [0])
+        self.assertEqual((turn.cuts, turn.choices, turn.place, turn.sort_before), ({1: 1, 2: 1, 3: 1}, {1: -1}, 2, 7))
+        # The cut at the old end is one like any other now: "bb" may not stand over it.
+        self.assertEqual(conversion.shown(), [4, 2, 0, 1, 0, 0, 1, 1, -1, 1, 2, 1, 2, 0, 3, 1, 2, 0])
+
+    def test_no_cut_comes_at_the_old_end(self):
+        conversion = self.conversion()
+        conversion.turn.cuts = {2: 1}
+        self.assertEqual(conversion.more(numbers_of("b")), [0])
+        self.assertEqual(conversion.shown(), [3, 0, 0, 1, 0, 0, 1, 1, 0, 0, 2, 2, 3, 0])
+
+    def test_start_settles_nothing(self):
+        conversion = self.conversion()
+        turn = conversion.turn
+        turn.cuts, turn.choices, turn.place, turn.sort_before = {2: 1}, {1: -1}, 2, 7
+        conversion.start(numbers_of("aab"))
+        turn = conversion.turn
+        self.assertEqual((turn.cuts, turn.choices, turn.place, turn.sort_before), ({}, {}, 0, 0))
+
+    def test_whatever_is_settled_all_ways_count(self):
+        conversion = Conversion()
+        conversion.tell_words(bytes_of("a A 0 0 9\n"))
+        conversion.start(numbers_of("a" * 10))
+        conversion.turn.choices = {0: 0, 1: -1}
+        self.assertEqual(conversion.more(numbers_of("a")), [-6])
+
+
+class Place(unittest.TestCase):
+    def test_where_one_is(self):
+        turn = Turn(tuple(numbers_of("aaab")))
+        pieces = shown_pieces(WORDS, JOINS, turn)
+        sizes = [piece.size for piece in pieces]
+        expected = [number for number, size in enumerate(sizes) for step in range(size)]
+        for place, number in enumerate(expected):
+            turn.place = place
+            self.assertEqual(where_one_is(turn, pieces), number)
+
+    def test_chosen(self):
+        turn = Turn(tuple(numbers_of("aab")))
+        turn.choices = {2: 4}
+        self.assertEqual([is_chosen(turn, piece) for piece in shown_pieces(WORDS, JOINS, turn)], [False, True])
+
+
+if __name__ == "__main__":
+    unittest.main()

@@ -1,39 +1,30 @@
 """A turn: a reading under way, what's settled of it, and what's shown."""
 
+from kanaturn.settled import is_kept_by, nothing_settled, without_first
 from kanaturn.ways import first_way, pieces_at
-
-A_PIECE_ENDS = 1
-NONE_ENDS = 2
 
 
 class Turn:
     def __init__(self, reading):
         self.reading = reading
         self.sort_before = 0
-        self.cuts = {}
-        self.choices = {}
+        self.settled = nothing_settled()
         self.place = 0
 
 
-def is_kept_by(turn, piece):
-    """If a way with this piece keeps, as far as the piece reaches, what's settled."""
-    end = piece.place + piece.size
-    for place in range(piece.place + 1, end):
-        if turn.cuts.get(place, 0) == A_PIECE_ENDS or place in turn.choices:
-            return False
-    # A cut at the reading's end counts nothing.
-    if end < len(turn.reading) and turn.cuts.get(end, 0) == NONE_ENDS:
-        return False
-    return turn.choices.get(piece.place, piece.number) == piece.number
+def kept_pieces(words, joins, reading, settled):
+    """For each place the pieces there that keep what's settled."""
+    end = len(reading)
+    pieces_by_place = []
+    for place in range(end):
+        pieces = pieces_at(words, joins.alone, reading, place)
+        pieces_by_place.append([piece for piece in pieces if is_kept_by(settled, piece, end)])
+    return pieces_by_place
 
 
 def shown_pieces(words, joins, turn):
     """The first way of those that keep what's settled."""
-    pieces_by_place = []
-    for place in range(len(turn.reading)):
-        pieces = pieces_at(words, joins.alone, turn.reading, place)
-        pieces_by_place.append([piece for piece in pieces if is_kept_by(turn, piece)])
-    return first_way(pieces_by_place, joins, turn.sort_before)
+    return first_way(kept_pieces(words, joins, turn.reading, turn.settled), joins, turn.sort_before)
 
 
 def where_one_is(turn, pieces):
@@ -42,4 +33,13 @@ def where_one_is(turn, pieces):
 
 
 def is_chosen(turn, piece):
-    return piece.place in turn.choices
+    return piece.place in turn.settled.choices
+
+
+def take_up_to(turn, piece):
+    """Takes a piece and all before it off a turn, with what's settled of them."""
+    sounds = piece.place + piece.size
+    turn.reading = turn.reading[sounds:]
+    turn.sort_before = piece.right
+    turn.settled = without_first(turn.settled, sounds)
+    turn.place = max(turn.place - sounds, 0)

@@ -1,4 +1,4 @@
-"""Ways of writing a reading: their pieces, how many there are, the first of them."""
+"""Ways of writing a reading: their pieces, what these write, how many ways there are, the first of them."""
 
 BY_ITSELF = -1
 
@@ -43,6 +43,20 @@ def pieces_at(words, alone, reading, place):
     return pieces
 
 
+def text_of(words, reading, piece):
+    """The characters that a piece writes."""
+    if piece.number == BY_ITSELF:
+        return (reading[piece.place],)
+    return words[piece.number].text
+
+
+def text_of_all(words, reading, pieces):
+    characters = []
+    for piece in pieces:
+        characters.extend(text_of(words, reading, piece))
+    return characters
+
+
 def count_ways(words, reading):
     end = len(reading)
     counts = [0] * end + [1]
@@ -75,6 +89,11 @@ def all_tails(pieces_by_place, joins):
             if behind is not None:
                 tails[place].append(Tail(piece, piece.cost + behind.least))
     return tails
+
+
+def least_cost(pieces_by_place, joins, sort):
+    """The least that a way behind a sort costs that has only these pieces."""
+    return first_behind(all_tails(pieces_by_place, joins)[0], joins, sort).least
 
 
 def first_way(pieces_by_place, joins, sort):

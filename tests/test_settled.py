@@ -1,4 +1,4 @@
-"""What's settled, where one is, what's chosen: no call settles anything yet, so turns are made by hand here."""
+"""What's settled, where one is, what's chosen: turns are made by hand here, with whatever a way may keep."""
 
 import itertools
 import unittest
@@ -6,8 +6,9 @@ import unittest
 from kanaturn.conversion import Conversion
 from kanaturn.joins import read_joins
 from kanaturn.lexicon import read_lexicon
+from kanaturn.settled import Settled
 from kanaturn.turn import Turn, is_chosen, shown_pieces, where_one_is
-from tests.helper import all_ways, bytes_of, joins_text, lexicon_text, numbers_of, way_rank
+from tests.helper import all_ways, bytes_of, joins_text, keeps, lexicon_text, numbers_of, way_rank
 
 # In the words' order, so that a word's number is its place here.
 LEXICON = [("a", "A", 1, 1, 10), ("aa", "B", 2, 2, 25), ("aa", "C", 1, 1, 25), ("aab", "E", 0, 0, 90),
@@ -17,30 +18,20 @@ TABLE = {(0, 2): 3, (1, 1): 20, (2, 3): 7, (3, 3): 1, (2, 1): 4}
 JOINS = read_joins(bytes_of(joins_text(40, TABLE)))
 
 
-def keeps(way, length, cuts, choices):
-    """The document's own words of a way that keeps what's settled."""
-    places = {}
-    place = 0
-    for size, number in way:
-        places[place] = number
-        place += size
-    for cut, kind in cuts.items():
-        if cut < length and kind == (2 if cut in places else 1):
-            return False
-    return all(places.get(place) == number for place, number in choices.items())
-
-
 def shown(reading, cuts, choices, sort=0):
     turn = Turn(tuple(numbers_of(reading)))
-    turn.cuts = dict(cuts)
-    turn.choices = dict(choices)
+    turn.settled = Settled(dict(cuts), dict(choices))
     turn.sort_before = sort
     return [(piece.size, piece.number) for piece in shown_pieces(WORDS, JOINS, turn)]
 
 
-class Settled(unittest.TestCase):
+def all_of(turn):
+    return (turn.settled.cuts, turn.settled.choices, turn.place, turn.sort_before)
+
+
+class Kept(unittest.TestCase):
     def check(self, reading, cuts, choices):
-        ways = [way for way in all_ways(LEXICON, reading) if keeps(way, len(reading), cuts, choices)]
+        ways = [way for way in all_ways(LEXICON, reading) if keeps(way, cuts, choices)]
         if ways:
             first = min(ways, key=lambda way: way_rank(LEXICON, 40, TABLE, way))
             self.assertEqual(shown(reading, cuts, choices), first, (reading, cuts, choices))
@@ -87,32 +78,31 @@ class More(unittest.TestCase):
     def test_all_else_stays(self):
         conversion = self.conversion()
         turn = conversion.turn
-        turn.cuts, turn.choices, turn.place, turn.sort_before = {1: 1, 2: 1, 3: 1}, {1: -1}, 2, 7
+        turn.settled, turn.place, turn.sort_before = Settled({1: 1, 2: 1, 3: 1}, {1: -1}), 2, 7
         self.assertEqual(conversion.shown(), [3, 2, 0, 1, 0, 0, 1, 1, -1, 1, 2, 1, 2, 0])
         self.assertEqual(conversion.more(numbers_of("b")), [0])
-        self.assertEqual((turn.cuts, turn.choices, turn.place, turn.sort_before), ({1: 1, 2: 1, 3: 1}, {1: -1}, 2, 7))
+        self.assertEqual(all_of(turn), ({1: 1, 2: 1, 3: 1}, {1: -1}, 2, 7))
         # The cut at the old end is one like any other now: "bb" may not stand over it.
         self.assertEqual(conversion.shown(), [4, 2, 0, 1, 0, 0, 1, 1, -1, 1, 2, 1, 2, 0, 3, 1, 2, 0])
 
     def test_no_cut_comes_at_the_old_end(self):
         conversion = self.conversion()
-        conversion.turn.cuts = {2: 1}
+        conversion.turn.settled = Settled({2: 1}, {})
         self.assertEqual(conversion.more(numbers_of("b")), [0])
         self.assertEqual(conversion.shown(), [3, 0, 0, 1, 0, 0, 1, 1, 0, 0, 2, 2, 3, 0])
 
     def test_start_settles_nothing(self):
         conversion = self.conversion()
         turn = conversion.turn
-        turn.cuts, turn.choices, turn.place, turn.sort_before = {2: 1}, {1: -1}, 2, 7
+        turn.settled, turn.place, turn.sort_before = Settled({2: 1}, {1: -1}), 2, 7
         conversion.start(numbers_of("aab"))
-        turn = conversion.turn
-        self.assertEqual((turn.cuts, turn.choices, turn.place, turn.sort_before), ({}, {}, 0, 0))
+        self.assertEqual(all_of(conversion.turn), ({}, {}, 0, 0))
 
     def test_whatever_is_settled_all_ways_count(self):
         conversion = Conversion()
         conversion.tell_words(bytes_of("a A 0 0 9\n"))
         conversion.start(numbers_of("a" * 10))
-        conversion.turn.choices = {0: 0, 1: -1}
+        conversion.turn.settled = Settled({}, {0: 0, 1: -1})
         self.assertEqual(conversion.more(numbers_of("a")), [-6])
 
 
@@ -128,7 +118,7 @@ class Place(unittest.TestCase):
 
     def test_chosen(self):
         turn = Turn(tuple(numbers_of("aab")))
-        turn.choices = {2: 4}
+        turn.settled = Settled({}, {2: 4})
         self.assertEqual([is_chosen(turn, piece) for piece in shown_pieces(WORDS, JOINS, turn)], [False, True])
 
 

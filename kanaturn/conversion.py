@@ -206,7 +206,9 @@ def answer_plain(conversion, number):
         return conversion.begin()
     if number == SHOWN:
         return conversion.shown()
-    return conversion.tell_text()
+    if number == TEXT:
+        return conversion.tell_text()
+    raise ValueError(f"no call {number}")
 
 
 def answer_with_number(conversion, number, told):

@@ -106,6 +106,79 @@ class More(unittest.TestCase):
         self.assertEqual(conversion.more(numbers_of("a")), [-6])
 
 
+class Steps(unittest.TestCase):
+    """What's settled behind each step, told whole: some of it is never seen in what's answered."""
+
+    def conversion(self, reading):
+        conversion = Conversion()
+        conversion.tell_words(bytes_of(lexicon_text(LEXICON)))
+        conversion.tell_joins(bytes_of(joins_text(40, TABLE)))
+        conversion.start(numbers_of(reading))
+        return conversion
+
+    def at(self, reading, cuts, choices, place):
+        conversion = self.conversion(reading)
+        conversion.turn.settled, conversion.turn.place = Settled(cuts, choices), place
+        return conversion
+
+    def settled(self, conversion):
+        return all_of(conversion.turn)[:3]
+
+    def test_width(self):
+        conversion = self.conversion("aab")
+        self.assertEqual(conversion.width(1), [0])
+        self.assertEqual(self.settled(conversion), ({1: 1}, {}, 0))
+        self.assertEqual(conversion.width(0), [0])
+        self.assertEqual(self.settled(conversion), ({1: 2, 2: 1}, {}, 0))
+        self.assertEqual(conversion.width(0), [0])
+        # The cut at the reading's end is kept.
+        self.assertEqual(self.settled(conversion), ({1: 2, 2: 2, 3: 1}, {}, 0))
+        self.assertEqual(conversion.width(0), [-5])
+        self.assertEqual(self.settled(conversion), ({1: 2, 2: 2, 3: 1}, {}, 0))
+
+    def test_width_behind_something(self):
+        conversion = self.at("baaabb", {1: 1, 2: 1, 3: 1, 4: 1, 5: 1, 6: 1}, {0: 4, 1: 0, 2: -1, 4: 4, 5: -1}, 2)
+        self.assertEqual(conversion.width(0), [0])
+        self.assertEqual(self.settled(conversion), ({1: 1, 2: 1, 3: 2, 4: 1}, {0: 4, 1: 0}, 2))
+
+    def test_choose(self):
+        conversion = self.conversion("aab")
+        self.assertEqual(conversion.choose(1), [0])
+        self.assertEqual(self.settled(conversion), ({2: 1}, {0: 1}, 0))
+        self.assertEqual(conversion.move(0), [0])
+        self.assertEqual(conversion.choose(0), [0])
+        self.assertEqual(self.settled(conversion), ({2: 1, 3: 1}, {0: 1, 2: 4}, 2))
+        self.assertEqual(conversion.choose(2), [-5])
+        self.assertEqual(self.settled(conversion), ({2: 1, 3: 1}, {0: 1, 2: 4}, 2))
+
+    def test_choose_from_the_middle_of_a_piece(self):
+        conversion = self.at("baab", {1: 1, 2: 2}, {3: -1}, 2)
+        self.assertEqual(conversion.choose(0), [0])
+        self.assertEqual(self.settled(conversion), ({1: 1, 2: 2, 3: 1}, {1: 1, 3: -1}, 1))
+
+    def test_take(self):
+        conversion = self.at("baaab", {1: 1, 2: 1, 3: 2, 4: 1, 5: 1}, {0: -1, 2: 1, 4: 4}, 3)
+        self.assertEqual(conversion.take(1), [1, 98])
+        self.assertEqual(self.settled(conversion), ({1: 1, 2: 2, 3: 1, 4: 1}, {1: 1, 3: 4}, 2))
+        self.assertEqual(conversion.take(1), [1, 65])
+        self.assertEqual(self.settled(conversion), ({1: 2, 2: 1, 3: 1}, {0: 1, 2: 4}, 1))
+        self.assertEqual(conversion.turn.sort_before, 1)
+        self.assertEqual(conversion.take(1), [1, 66])
+        self.assertEqual(self.settled(conversion), ({1: 1}, {0: 4}, 0))
+        self.assertEqual(conversion.turn.sort_before, 2)
+
+    def test_move_text_could_and_shown_settle_nothing(self):
+        conversion = self.at("aab", {2: 1, 3: 1}, {2: 4}, 1)
+        conversion.tell_text()
+        conversion.shown()
+        conversion.could(0)
+        self.assertEqual(self.settled(conversion), ({2: 1, 3: 1}, {2: 4}, 1))
+        conversion.move(0)
+        self.assertEqual(self.settled(conversion), ({2: 1, 3: 1}, {2: 4}, 2))
+        conversion.move(1)
+        self.assertEqual(self.settled(conversion), ({2: 1, 3: 1}, {2: 4}, 0))
+
+
 class Place(unittest.TestCase):
     def test_where_one_is(self):
         turn = Turn(tuple(numbers_of("aaab")))

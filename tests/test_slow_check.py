@@ -35,9 +35,9 @@ def drawn_reading(source, least, most):
 def drawn_call(source, costs):
     """A call as a name and what's told with it."""
     name = source.choices(("move", "width", "choose", "take", "more", "start", "words", "joins", "begin"),
-                          (30, 30, 30, 8, 8, 2, 1, 1, 1))[0]
+                          (30, 25, 20, 8, 14, 2, 1, 1, 1))[0]
     if name in ("move", "width"):
-        return (name, source.choice((0, 0, 0, 1, 1, 1, 2, GREATEST) if source.random() < 0.1 else (0, 1)))
+        return (name, source.choice((2, GREATEST) if source.random() < 0.05 else (0, 1)))
     if name in ("choose", "take"):
         return (name, source.choice((0, 1, 1, 1, 2, 3, GREATEST)))
     if name == "more":
@@ -75,7 +75,7 @@ def drawn_list(source, costs):
 
     call("words", drawn_lexicon(source, costs))
     call("joins", source.randint(0, costs + 1), drawn_table(source, costs))
-    call("start", drawn_reading(source, 2, 6))
+    call("start", drawn_reading(source, 1, 6))
     while len(calls) < MOST_CALLS - 4:
         drawn = drawn_call(source, costs)
         if drawn[0] == "more" and len(slow.reading) > 5:
@@ -83,8 +83,8 @@ def drawn_list(source, costs):
         call(*drawn)
         call("shown")
         call(*source.choice((("text",), ("could", 0), ("could", 1), ("could", 2))))
-        if not slow.reading and source.random() < 0.8:
-            call("start", drawn_reading(source, 2, 6))
+        if not slow.reading and source.random() < 0.7:
+            call("start", drawn_reading(source, 1, 6))
     return calls, answered
 
 
